@@ -36,17 +36,20 @@ func isAction(w api.What) bool {
 	return w == api.Accepted || w == api.Amended || w == api.Reduced || w == api.Withdrawn
 }
 
-// isWithin tells whether the market is within its quotas behind an event.
+// isWithin tells whether an event is within the quotas, of which each is asked of the one What alone that makes more of what it bounds: a quota below 0 is passed from the beginning on, and an event by which nothing of its kind came about must not be blamed for that.
 func (l *look) isWithin(e api.Event) bool {
 	c := l.config
-	if l.given > c.IDs || l.volume > c.Volume || len(l.rows[api.Buy])+len(l.rows[api.Sell]) > c.Orders {
-		return false
+	switch e.What {
+	case api.Accepted:
+		return l.given <= c.IDs
+	case api.Traded:
+		return l.volume <= c.Volume
+	case api.Rested:
+		orders, _ := l.open(e.Client)
+		all := len(l.rows[api.Buy]) + len(l.rows[api.Sell])
+		return orders <= c.Open && all <= c.Orders && l.prices(e.Side) <= c.Levels
 	}
-	if l.prices(api.Buy) > c.Levels || l.prices(api.Sell) > c.Levels {
-		return false
-	}
-	orders, _ := l.open(e.Client)
-	return e.What != api.Rested || orders <= c.Open
+	return true
 }
 
 // isIdle tells whether no entry is under way.

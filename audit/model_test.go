@@ -246,6 +246,7 @@ func (m *model) event(x api.Told, first bool) api.Errno {
 	if !namesItsOwn(e) || !m.canBe(e) {
 		return badEvent
 	}
+	ahead := m.bounded(e.Client)
 	m.done(e)
 	if slices.Contains([]api.What{api.Accepted, api.Amended, api.Reduced, api.Withdrawn}, e.What) {
 		if !first && !slices.ContainsFunc(m.fired, func(p plan) bool { return p.client == e.Client }) {
@@ -255,17 +256,31 @@ func (m *model) event(x api.Told, first bool) api.Errno {
 			return no
 		}
 	}
+	for name, n := range m.bounded(e.Client) {
+		if was := ahead[name]; n.is > was.is && n.is > n.most {
+			return badQuota
+		}
+	}
+	return ok
+}
+
+// bound is how much there is of something, and how much may be.
+type bound struct{ is, most int64 }
+
+// bounded is all that quotas bound, but for actions: an event that makes none of it more is not the one by which it is too much.
+func (m *model) bounded(client int) map[string]bound {
 	prices := map[api.Side]map[int64]int{api.Buy: {}, api.Sell: {}}
 	for _, o := range m.rest {
 		prices[o.Side][o.Price]++
 	}
-	if e.What == api.Rested && m.usage(e.Client).Orders > m.c.Open {
-		return badQuota
+	return map[string]bound{
+		"numbers":     {int64(m.numbers), int64(m.c.IDs)},
+		"volume":      {m.volume, m.c.Volume},
+		"open":        {int64(m.usage(client).Orders), int64(m.c.Open)},
+		"orders":      {int64(len(m.rest)), int64(m.c.Orders)},
+		"buy prices":  {int64(len(prices[api.Buy])), int64(m.c.Levels)},
+		"sell prices": {int64(len(prices[api.Sell])), int64(m.c.Levels)},
 	}
-	if m.numbers > m.c.IDs || m.volume > m.c.Volume || len(m.rest) > m.c.Orders || len(prices[api.Buy]) > m.c.Levels || len(prices[api.Sell]) > m.c.Levels {
-		return badQuota
-	}
-	return ok
 }
 
 // namesItsOwn tells whether all fields are noughts that the chapter's table does not name for an event.

@@ -132,6 +132,7 @@ func TestIDs(t *testing.T) {
 }
 
 func TestVolume(t *testing.T) {
+	// Five lots are traded by the first trade, one more by the second.
 	for volume, place := range []int{2, 2, 2, 2, 2, 3} {
 		j := stagedBy(t, with(func(c *api.Config) { c.Volume = int64(volume) }))
 		expectWrong(t, j, buysSome(), badQuota, place)
@@ -206,12 +207,38 @@ func TestLevels(t *testing.T) {
 	expectWrong(t, one, rests(4, 2, buys, 8, 1, api.Top{Bid: 9, Ask: 10}), badQuota, 1)
 }
 
-// How the market stands is held against the quotas behind each event: below 0 there is room for none.
-func TestQuotasBelowNought(t *testing.T) {
-	s := step{buy(1, 9, 3), api.Reply{ID: 1, Told: told(accepted(1, 1, buys, 9, 3), dropped(1, 1, buys, 9, 3))}}
-	for _, turn := range []func(c *api.Config){func(c *api.Config) { c.Volume = -1 }, func(c *api.Config) { c.Orders = -1 }, func(c *api.Config) { c.Levels = -1 }} {
-		expectWrong(t, made(t, with(turn)), s, badQuota, 0)
-		expectSeen(t, made(t, with(turn)), step{tick(1), api.Reply{}}, step{book(), api.Reply{}})
+// Only an event that trades can be the one by which too much was traded: with a Volume below 0 it is the first of these, whatever came ahead of it.
+func TestVolumeBelowNought(t *testing.T) {
+	for _, volume := range []int64{least, -1} {
+		c := with(func(c *api.Config) { c.Volume = volume })
+		for _, s := range append(actions(), reduces(), withdraws(), drops(), ticked(sceneTop(), fired(1), reject(1))) {
+			expectSeen(t, stagedBy(t, c), s)
+		}
+		yields := step{buy(1, 10, 3), api.Reply{ID: 2, Told: told(accepted(2, 1, buys, 10, 3), yielded(1, 2, 1, sells, 10, 5), rested(2, 1, buys, 10, 3)), Top: api.Top{Bid: 10}}}
+		expectSeen(t, made(t, c), e(1), yields)
+		expectWrong(t, stagedBy(t, c), buysSome(), badQuota, 2)
+		expectWrong(t, stagedBy(t, c), buysAll(), badQuota, 3)
+		expectWrong(t, stagedBy(t, c), comesAnew(), badQuota, 2)
+		expectWrong(t, stagedBy(t, c), sellsAny(), badQuota, 2)
+	}
+}
+
+// Only an event by which an order comes to rest can be the one by which too many rest, or at too many prices: with such a quota below 0 it is the first of these.
+func TestRoomBelowNought(t *testing.T) {
+	drops := func(id int) step {
+		return step{buy(1, 9, 3), api.Reply{ID: id, Told: told(accepted(id, 1, buys, 9, 3), dropped(id, 1, buys, 9, 3))}}
+	}
+	for _, n := range []int{least, -1} {
+		for _, turn := range []func(c *api.Config){func(c *api.Config) { c.Open = n }, func(c *api.Config) { c.Orders = n }, func(c *api.Config) { c.Levels = n }} {
+			j := made(t, with(turn))
+			expectSeen(t, j, step{tick(1), api.Reply{}}, drops(1), drops(2), step{book(), api.Reply{}})
+			expectSeen(t, j, step{upload(1, "s"), api.Reply{ID: 1}}, step{start(1, 1), api.Reply{Rounds: 1}})
+			expectSeen(t, j, ticked(api.Top{}, fired(1), accepted(3, 1, sells, 9, 3), dropped(3, 1, sells, 9, 3), reject(1)))
+			expectWrong(t, j, ticked(api.Top{Bid: 9}, fired(1), accepted(4, 1, sells, 9, 3), dropped(4, 1, sells, 9, 3), accepted(5, 1, buys, 9, 3), rested(5, 1, buys, 9, 3)), badQuota, 4)
+			for _, s := range []step{e(1), rests(1, 2, buys, 9, 1, api.Top{Bid: 9})} {
+				expectWrong(t, made(t, with(turn)), s, badQuota, 1)
+			}
+		}
 	}
 }
 

@@ -139,8 +139,31 @@ func (d *drawer) tighter() api.Config {
 		c.Rules.Clients = 1 + d.below(2)
 	case 9:
 		c.Window = int64(1 + d.below(5))
+	case 10:
+		d.belowNought(&c)
 	}
 	return c
+}
+
+// belowNought lets a quota be below 0.
+func (d *drawer) belowNought(c *api.Config) {
+	n := d.number(-1, -1, -2, least)
+	switch d.below(9) {
+	case 0, 1, 2:
+		c.Volume = int64(n)
+	case 3:
+		c.Orders = n
+	case 4:
+		c.Levels = n
+	case 5:
+		c.Open = n
+	case 6:
+		c.IDs = n
+	case 7:
+		c.Acts = n
+	case 8:
+		c.Strats = n
+	}
 }
 
 // A venue's replies, and some that slipped, against the model; half of them as the judge of a lesser venue.
